@@ -1,0 +1,1 @@
+"""Heapsdouble: from one heap to another as many as that one has."""
