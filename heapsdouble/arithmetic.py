@@ -1,4 +1,6 @@
-"""Powers of two, and what is left of a number without them."""
+"""Powers of two, divisors, and what is left of a number without them."""
+
+from math import gcd
 
 
 def split_twos(number):
@@ -9,6 +11,14 @@ def split_twos(number):
         odd //= 2
         twos += 1
     return (odd, twos)
+
+
+def reduced_parts(numbers):
+    """Return (odd, twos) of the sum of numbers that are not all 0, divided by their greatest common divisor."""
+    divisor = 0
+    for number in numbers:
+        divisor = gcd(divisor, number)
+    return split_twos(sum(numbers) // divisor)
 
 
 def power_of_two(exponent, modulus):
@@ -34,3 +44,25 @@ def order_of_two(odd):
         power = power * 2 % odd
         order += 1
     return order
+
+
+def odd_divisors(odd):
+    """Return the ascending list of the divisors above 1 of an odd number."""
+    return [number for number in range(3, odd + 1, 2) if odd % number == 0]
+
+
+def totient(number):
+    """Return how many of the integers from 1 to number have no divisor above 1 in common with it."""
+    free = number
+    left = number
+    factor = 2
+    while left > 1:
+        if factor * factor > left:
+            # No smaller factor is left, so this is a prime one, and the last.
+            factor = left
+        if left % factor == 0:
+            free -= free // factor
+        while left % factor == 0:
+            left //= factor
+        factor += 1
+    return free

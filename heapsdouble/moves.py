@@ -16,6 +16,11 @@ def can_be_made(heaps, step):
     return 0 < heaps[other] <= heaps[one]
 
 
+def steps_from(heaps):
+    """Return the ascending list of all steps that can be made."""
+    return [step for step in pairs_of(len(heaps)) if can_be_made(heaps, step)]
+
+
 def shifted(heaps, step, many):
     """Return the heaps after so many went over as the step tells; many below 0 go back."""
     one, other = step
@@ -28,6 +33,14 @@ def shifted(heaps, step, many):
 def behind(heaps, step):
     """Return the heaps behind a step that can be made."""
     return shifted(heaps, step, heaps[step[1]])
+
+
+def behind_all(heaps, plan):
+    """Return the heaps behind steps that can all be made one behind the other."""
+    stand = heaps
+    for step in plan:
+        stand = behind(stand, step)
+    return stand
 
 
 def may_be_doubled(heap):

@@ -1,8 +1,6 @@
 """The walk of two heaps."""
 
-from math import gcd
-
-from heapsdouble.arithmetic import order_of_two, power_of_two, split_twos
+from heapsdouble.arithmetic import order_of_two, power_of_two, reduced_parts
 from heapsdouble.checks import GREATEST, check_heaps, is_integer
 from heapsdouble.errors import BadHeaps, BadMany, TooGreat
 
@@ -14,11 +12,6 @@ def check_two(heaps):
     check_heaps(heaps)
     if len(heaps) != 2:
         raise BadHeaps()
-
-
-def reduced_parts(heaps):
-    """Return (odd, twos) of the sum of two heaps, divided by their common divisor."""
-    return split_twos(sum(heaps) // gcd(heaps[0], heaps[1]))
 
 
 def after(heaps, many):

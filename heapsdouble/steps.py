@@ -2,13 +2,13 @@
 
 from heapsdouble.checks import check_heaps, check_plan, is_pair_of
 from heapsdouble.errors import BadPlan, BadStep
-from heapsdouble.moves import behind, can_be_made, earlier, may_be_doubled, pairs_of
+from heapsdouble.moves import behind, behind_all, can_be_made, earlier, may_be_doubled, pairs_of, steps_from
 
 
 def steps(heaps):
     """Return the ascending list of all steps that can be made."""
     check_heaps(heaps)
-    return [step for step in pairs_of(len(heaps)) if can_be_made(heaps, step)]
+    return steps_from(heaps)
 
 
 def stepped(heaps, step):
@@ -36,10 +36,7 @@ def made(heaps, plan):
     failed = judge(heaps, plan)
     if failed is not None:
         raise BadPlan(failed)
-    stand = heaps
-    for step in plan:
-        stand = behind(stand, step)
-    return stand
+    return behind_all(heaps, plan)
 
 
 def before(heaps):

@@ -32,9 +32,16 @@ NOT_STEPS = ANY_KINDS + [
 
 NOT_PLANS = [value for value in ANY_KINDS if not isinstance(value, tuple)] + [[], [(1, 0)], {(1, 0): 1}, "10"]
 
-NOT_MANY = [value for value in ANY_KINDS if isinstance(value, bool) or not isinstance(value, int)] + [
-    -1, -LIMIT, LIMIT + 1, LIMIT * LIMIT, (0, 1), [1], (1,),
-]
+
+def not_numbers(least, greatest):
+    """Return values of every kind that are no integer from least to greatest."""
+    return [value for value in ANY_KINDS if isinstance(value, bool) or not isinstance(value, int)] + [
+        least - 1, greatest + 1, -greatest - 1, greatest * 1000 + 1, -LIMIT, LIMIT * LIMIT,
+        (least,), [greatest], (least, greatest), str(greatest), {least: greatest},
+    ]
+
+
+NOT_MANY = not_numbers(0, LIMIT)
 
 
 def all_heaps(many, total):
@@ -60,6 +67,18 @@ def plain_steps(heaps):
             if one != other and plain_step(heaps, one, other) is not None:
                 found[(one, other)] = plain_step(heaps, one, other)
     return found
+
+
+def plain_distances(heaps):
+    """Return {heaps: least number of steps} of all that can come to be."""
+    distances = {heaps: 0}
+    waiting = [heaps]
+    for stand in waiting:
+        for onward in plain_steps(stand).values():
+            if onward not in distances:
+                distances[onward] = distances[stand] + 1
+                waiting.append(onward)
+    return distances
 
 
 def plain_walk(heaps):

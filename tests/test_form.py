@@ -5,7 +5,7 @@ import unittest
 from pathlib import Path
 
 PACKAGE = Path(__file__).resolve().parent.parent / "heapsdouble"
-LIBRARY = {"math": {"gcd"}}
+LIBRARY = {"math": {"gcd"}, "itertools": {"combinations"}}
 
 
 def package_files():
