@@ -1,6 +1,7 @@
 """Looks at the values that callers pass, which may be of any kind."""
 
-from heapsdouble.errors import BadHeaps, BadPlan
+from heapsdouble.errors import BadHeaps, BadPlan, BadStep
+from heapsdouble.moves import can_be_made
 
 FEWEST_HEAPS = 2
 MOST_HEAPS = 6
@@ -35,6 +36,12 @@ def check_heaps(heaps):
     """Raise BadHeaps for what is no heaps."""
     if not is_heaps(heaps):
         raise BadHeaps()
+
+
+def check_step(heaps, step):
+    """Raise BadStep for what is no step that can be made. The heaps may be above the limit, as those of a desk."""
+    if not is_pair_of(len(heaps), step) or not can_be_made(heaps, step):
+        raise BadStep()
 
 
 def check_plan(many, plan):

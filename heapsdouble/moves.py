@@ -35,6 +35,11 @@ def behind(heaps, step):
     return shifted(heaps, step, heaps[step[1]])
 
 
+def all_behind(heaps):
+    """Return the heaps behind each of the steps that can be made, in the order of the steps."""
+    return [behind(heaps, step) for step in steps_from(heaps)]
+
+
 def behind_all(heaps, plan):
     """Return the heaps behind steps that can all be made one behind the other."""
     stand = heaps

@@ -2,7 +2,7 @@
 
 from heapsdouble.checks import check_heaps, is_integer
 from heapsdouble.errors import BadMany, TooGreat
-from heapsdouble.moves import behind, steps_from
+from heapsdouble.moves import all_behind, behind, steps_from
 
 MOST_SMALL_HEAPS = 4
 GREATEST_SMALL_SUM = 40
@@ -93,7 +93,6 @@ def ways_behind(ways):
     """Return {heaps: number of plans that lead there} one step behind the same dict."""
     onward = {}
     for heaps, many in ways.items():
-        for step in steps_from(heaps):
-            stand = behind(heaps, step)
+        for stand in all_behind(heaps):
             onward[stand] = onward.get(stand, 0) + many
     return onward

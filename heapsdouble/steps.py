@@ -1,7 +1,7 @@
 """Steps, plans, and what comes before a standing."""
 
-from heapsdouble.checks import check_heaps, check_plan, is_pair_of
-from heapsdouble.errors import BadPlan, BadStep
+from heapsdouble.checks import check_heaps, check_plan, check_step
+from heapsdouble.errors import BadPlan
 from heapsdouble.moves import behind, behind_all, can_be_made, earlier, may_be_doubled, pairs_of, steps_from
 
 
@@ -14,8 +14,7 @@ def steps(heaps):
 def stepped(heaps, step):
     """Return the heaps behind the step."""
     check_heaps(heaps)
-    if not is_pair_of(len(heaps), step) or not can_be_made(heaps, step):
-        raise BadStep()
+    check_step(heaps, step)
     return behind(heaps, step)
 
 

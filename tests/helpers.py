@@ -3,6 +3,7 @@
 from itertools import product
 
 from heapsdouble import errors
+from heapsdouble.desks import Desk
 
 LIMIT = 10 ** 30
 
@@ -12,6 +13,7 @@ ANY_KINDS = [
     [], [3, 5], [(0, 1)], {}, {0: 3, 1: 5}, {"heaps": (3, 5)},
     (None,), ("3",), ([],), ({},), (True,), ((),),
     errors.HeapError(), errors.BadHeaps(), errors.BadPlan(None), errors.InvalidText(1, 2),
+    Desk((3, 5)), (Desk((3, 5)), Desk((3, 5))),
 ]
 
 NOT_HEAPS = ANY_KINDS + [
